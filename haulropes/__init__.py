@@ -1,0 +1,1 @@
+"""Haulropes: hauling barges that are tied by ropes."""

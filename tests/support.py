@@ -1,0 +1,88 @@
+"""What several test files use."""
+
+import itertools
+import random
+import unittest
+
+# Three barges in a circle of ropes, as in the examples of the document.
+RING = (3, ((0, 1, 5), (1, 2, 5), (2, 0, 5)))
+# Two barges that cannot lie anywhere.
+CLASH = (2, ((0, 1, 3), (1, 0, -4)))
+
+# Values that are no integers, of the kinds that an invalid argument may have.
+NO_NUMBERS = (True, False, None, "1", "", 1.0, 0.5, (), (1,), [], [1])
+
+
+class ErrorCase(unittest.TestCase):
+    def expect(self, kind, call, *arguments, **attributes):
+        """Check that a call raises exactly this error with exactly these attributes."""
+        with self.assertRaises(kind) as caught:
+            call(*arguments)
+        self.assertIs(type(caught.exception), kind)
+        self.assertEqual(vars(caught.exception), attributes)
+        for value in vars(caught.exception).values():
+            self.assertIsNot(type(value), bool)
+
+
+def random_fleets(many, most_barges=5, low=-9, high=15, seed=1):
+    """Return the same mixed fleets at every run, with and without contradictions."""
+    source = random.Random(seed)
+    fleets = []
+    for _ in range(many):
+        count = source.randint(1, most_barges)
+        ropes = []
+        for _ in range(source.randint(0, 2 * count) if count > 1 else 0):
+            front, rear = source.sample(range(count), 2)
+            ropes.append((front, rear, source.randint(low, high)))
+        fleets.append((count, tuple(ropes)))
+    return fleets
+
+
+def simple_chains(fleet, front, rear):
+    """Return the lengths of all chains without a barge twice, by trying all orders of barges."""
+    count, ropes = fleet
+    if front == rear:
+        return [0]
+    between = [barge for barge in range(count) if barge not in (front, rear)]
+    lengths = []
+    for many in range(len(between) + 1):
+        for middle in itertools.permutations(between, many):
+            total = path_length(ropes, (front,) + middle + (rear,))
+            if total is not None:
+                lengths.append(total)
+    return lengths
+
+
+def path_length(ropes, path):
+    """Return the least length of a chain along a path of barges, or None."""
+    total = 0
+    for step in zip(path, path[1:]):
+        fitting = [rope[2] for rope in ropes if rope[:2] == step]
+        if not fitting:
+            return None
+        total += min(fitting)
+    return total
+
+
+def is_contradictory(fleet):
+    """Return whether a path of distinct barges closes to a circle of negative length."""
+    count, ropes = fleet
+    for many in range(2, count + 1):
+        for path in itertools.permutations(range(count), many):
+            total = path_length(ropes, path + path[:1])
+            if total is not None and total < 0:
+                return True
+    return False
+
+
+def settle(fleet, positions):
+    """Return the least valid positions ahead of positions, by moving rear barges again and again."""
+    positions = list(positions)
+    moved = True
+    while moved:
+        moved = False
+        for front, rear, length in fleet[1]:
+            if positions[front] - length > positions[rear]:
+                positions[rear] = positions[front] - length
+                moved = True
+    return tuple(positions)
