@@ -1,6 +1,7 @@
 """Checks of the arguments that several parts of the package take."""
 
-from haulropes.errors import BrokenRope, InvalidFleet, InvalidPositions, InvalidWishes
+from haulropes.errors import (
+    BrokenRope, InvalidCrew, InvalidFleet, InvalidGoal, InvalidPositions, InvalidRope, InvalidWishes)
 
 MOST_BARGES = 8
 MOST_ROPES = 40
@@ -43,6 +44,12 @@ def check_fleet(fleet):
     for index, rope in enumerate(ropes):
         if index == MOST_ROPES or not is_rope(rope, count):
             raise InvalidFleet("ropes", index)
+
+
+def check_rope(fleet, rope):
+    """Raise InvalidRope if a value is not a rope between barges of a fleet."""
+    if not is_rope(rope, fleet[0]):
+        raise InvalidRope("a rope ties two different barges of the fleet")
 
 
 def first_wrong_entry(entries, count, blank):
@@ -91,3 +98,26 @@ def check_wishes(fleet, wishes):
     index = first_wrong_entry(wishes, fleet[0], True)
     if index is not None:
         raise InvalidWishes(index)
+
+
+def check_way(fleet, positions, goal):
+    """Raise an error if the values are not a fleet, valid positions of it and a goal for them."""
+    check_fleet(fleet)
+    check_valid(fleet, positions)
+    check_valid(fleet, goal)
+    for barge, position in enumerate(positions):
+        if goal[barge] < position:
+            raise InvalidGoal(barge)
+
+
+def check_crew(fleet, crew):
+    """Raise InvalidCrew if a value is neither None nor an ascending tuple of barges of a fleet."""
+    if crew is None:
+        return
+    if not isinstance(crew, tuple):
+        raise InvalidCrew(0)
+    least = 0
+    for index, barge in enumerate(crew):
+        if not is_number(barge, least, fleet[0] - 1):
+            raise InvalidCrew(index)
+        least = barge + 1

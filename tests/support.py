@@ -16,8 +16,16 @@ NO_NUMBERS = (True, False, None, "1", "", 1.0, 0.5, (), (1,), [], [1])
 class ErrorCase(unittest.TestCase):
     def expect(self, kind, call, *arguments, **attributes):
         """Check that a call raises exactly this error with exactly these attributes."""
+        self.expect_with({}, kind, call, *arguments, **attributes)
+
+    def expect_crew(self, crew, kind, call, *arguments, **attributes):
+        """Check the same of a call with this crew."""
+        self.expect_with({"crew": crew}, kind, call, *arguments, **attributes)
+
+    def expect_with(self, keywords, kind, call, *arguments, **attributes):
+        """Check the same of a call with keywords."""
         with self.assertRaises(kind) as caught:
-            call(*arguments)
+            call(*arguments, **keywords)
         self.assertIs(type(caught.exception), kind)
         self.assertEqual(vars(caught.exception), attributes)
         for value in vars(caught.exception).values():
@@ -36,6 +44,59 @@ def random_fleets(many, most_barges=5, low=-9, high=15, seed=1):
             ropes.append((front, rear, source.randint(low, high)))
         fleets.append((count, tuple(ropes)))
     return fleets
+
+
+def calm_fleets(many, **limits):
+    """Return random fleets with valid positions near 0."""
+    pairs = []
+    for fleet in random_fleets(many, **limits):
+        if not is_contradictory(fleet):
+            pairs.append((fleet, settle(fleet, (0,) * fleet[0])))
+    return pairs
+
+
+def random_ways(many, seed=2, steps=(0, 0, 1, 2, 3, 5), farthest=8, **limits):
+    """Return fleets with few tight ropes, positions, and goals that are at most so far away."""
+    source = random.Random(seed)
+    limits = {"most_barges": 4, "low": -3, "high": 4, "seed": seed, **limits}
+    ways = []
+    for fleet, _ in calm_fleets(many, **limits):
+        positions = settle(fleet, [source.randint(0, 3) for _ in range(fleet[0])])
+        goal = settle(fleet, [position + source.choice(steps) for position in positions])
+        if max(there - here for here, there in zip(positions, goal)) <= farthest:
+            ways.append((fleet, positions, goal))
+    return ways
+
+
+def all_crews(count):
+    """Return None and all crews of so many barges."""
+    crews = [None]
+    for many in range(count + 1):
+        crews += itertools.combinations(range(count), many)
+    return crews
+
+
+def search_hauls(fleet, positions, goal, crew, single_steps):
+    """Return the least number of hauls to a goal, by trying all of them, or None.
+
+    With single steps, each haul leads ahead by 1, and the number is the least total distance.
+    """
+    crew = range(fleet[0]) if crew is None else crew
+    found = {tuple(positions): 0}
+    queue = [tuple(positions)]
+    for current in queue:
+        if current == goal:
+            return found[current]
+        for barge in crew:
+            last = min(current[barge] + 1, goal[barge]) if single_steps else goal[barge]
+            for target in range(current[barge] + 1, last + 1):
+                moved = list(current)
+                moved[barge] = target
+                after = settle(fleet, moved)
+                if after not in found and all(there <= most for there, most in zip(after, goal)):
+                    found[after] = found[current] + 1
+                    queue.append(after)
+    return None
 
 
 def simple_chains(fleet, front, rear):

@@ -6,25 +6,64 @@ import inspect
 import pathlib
 import unittest
 
-from haulropes import fleets, hauling
-from haulropes.errors import HaulError, InvalidBarge, InvalidFleet, InvalidHaul, InvalidPositions, InvalidWishes
+from haulropes import distances, fleets, hauling, knots, logs, ropes
+from haulropes.errors import (
+    BrokenRope, CrewTooSmall, HaulError, InvalidBarge, InvalidCertificate, InvalidCrew, InvalidFleet, InvalidGoal,
+    InvalidHaul, InvalidPositions, InvalidRope, InvalidWishes)
 from support import CLASH, RING, ErrorCase
 
+WAY = ["fleet", "positions", "goal"]
 PARAMETERS = {
-    "broken_ropes": ["fleet", "positions"],
-    "taut_ropes": ["fleet", "positions"],
-    "chain_length": ["fleet", "front", "rear"],
-    "find_circle": ["fleet"],
-    "is_circle": ["fleet", "circle"],
-    "haul": ["fleet", "positions", "barge", "position"],
-    "haul_all": ["fleet", "positions", "hauls"],
-    "total_distance": ["fleet", "positions", "hauls"],
-    "dragged_barges": ["fleet", "positions", "barge", "position"],
-    "least_positions": ["fleet", "positions", "wishes"],
-    "greatest_positions": ["fleet", "limits"],
-    "reachable_ranges": ["fleet", "positions", "limits"],
+    fleets: {
+        "broken_ropes": ["fleet", "positions"],
+        "taut_ropes": ["fleet", "positions"],
+        "chain_length": ["fleet", "front", "rear"],
+        "find_circle": ["fleet"],
+        "is_circle": ["fleet", "circle"],
+    },
+    hauling: {
+        "haul": ["fleet", "positions", "barge", "position"],
+        "haul_all": ["fleet", "positions", "hauls"],
+        "total_distance": ["fleet", "positions", "hauls"],
+        "dragged_barges": ["fleet", "positions", "barge", "position"],
+        "least_positions": ["fleet", "positions", "wishes"],
+        "greatest_positions": ["fleet", "limits"],
+        "reachable_ranges": ["fleet", "positions", "limits"],
+    },
+    knots: {
+        "moving_barges": WAY,
+        "find_knots": WAY,
+        "find_source_knots": WAY,
+        "fewest_hauls": WAY,
+        "count_choices": WAY,
+        "plan_fewest": WAY + ["crew"],
+        "needs_haul": WAY + ["barges"],
+    },
+    distances: {
+        "least_distance": WAY + ["crew"],
+        "plan_shortest": WAY + ["crew"],
+        "distance_certificate": WAY + ["crew"],
+        "check_certificate": WAY + ["certificate", "crew"],
+    },
+    ropes: {
+        "implied": ["fleet", "rope"],
+        "counterexample": ["fleet", "rope"],
+        "redundant_ropes": ["fleet"],
+        "reduce_ropes": ["fleet"],
+        "missing_rope": ["fleet", "other"],
+    },
+    logs: {
+        "first_error": ["fleet", "positions", "log"],
+        "shortest_ropes": ["count", "pairs", "arrangements"],
+        "count_positions": ["fleet", "limit"],
+    },
 }
-IN_FLEETS = ("broken_ropes", "taut_ropes", "chain_length", "find_circle", "is_circle")
+
+START = (0, 0, 0)
+GOAL = (10, 5, 5)
+LOG = [((0, 8), (8, 3, 0)), ((2, 6), (8, 3, 6))]
+SHOWN = [((0,), 4), ((1,), 4), ((0, 1), 16)]
+PAIR = (2, ((0, 1, 4), (1, 0, 4)))
 
 # Calls with valid arguments, and the kind of the value that each of them returns.
 CALLS = (
@@ -41,6 +80,25 @@ CALLS = (
     (hauling.least_positions, (RING, (0, 0, 0), (8, None, 6)), tuple),
     (hauling.greatest_positions, (RING, (None, 4, None)), tuple),
     (hauling.reachable_ranges, (RING, (0, 0, 0), (None, 4, None)), list),
+    (knots.moving_barges, (RING, START, GOAL), list),
+    (knots.find_knots, (RING, START, GOAL), list),
+    (knots.find_source_knots, (RING, START, GOAL), list),
+    (knots.fewest_hauls, (RING, START, GOAL), int),
+    (knots.count_choices, (RING, START, GOAL), int),
+    (knots.plan_fewest, (RING, START, GOAL), list),
+    (knots.needs_haul, (RING, START, GOAL, [1, 0, 1]), bool),
+    (distances.least_distance, (RING, START, GOAL), int),
+    (distances.plan_shortest, (RING, START, GOAL), list),
+    (distances.distance_certificate, (RING, START, GOAL), list),
+    (distances.check_certificate, (PAIR, (0, 0), (20, 20), SHOWN), int),
+    (ropes.implied, (RING, (0, 2, 10)), bool),
+    (ropes.counterexample, (RING, (0, 2, 9)), tuple),
+    (ropes.redundant_ropes, ((2, ((0, 1, 5), (0, 1, 5))),), list),
+    (ropes.reduce_ropes, ((2, ((0, 1, 5), (0, 1, 5))),), tuple),
+    (ropes.missing_rope, (RING, (3, ((0, 2, 10), (0, 2, 9)))), int),
+    (logs.first_error, (RING, START, LOG + [None]), int),
+    (logs.shortest_ropes, (2, [(0, 1), (1, 0)], [(0, 4), (9, 5)]), list),
+    (logs.count_positions, ((2, ((0, 1, 0),)), 2), int),
 )
 FAILING_CALLS = (
     (fleets.broken_ropes, ((3, [(0, 1, 5)]), [0, 0])),
@@ -50,20 +108,40 @@ FAILING_CALLS = (
     (hauling.total_distance, (RING, (0, 0, 0), [(0, 8), [1, 6]])),
     (hauling.least_positions, (RING, (0, 0, 0), [None, 5, None])),
     (hauling.greatest_positions, (CLASH, (None, None))),
+    (knots.moving_barges, (RING, START, [10, 5, 5])),
+    (distances.check_certificate, (PAIR, (0, 0), (20, 20), SHOWN + [[(0,), 1]])),
+    (ropes.counterexample, (RING, [0, 2, 9])),
+    (logs.shortest_ropes, (2, [(0, 1), [1, 0]], [(0, 4), (9, 5)])),
+    (logs.shortest_ropes, (2, [(0, 1)], [(0, 4), [9, 5]])),
 )
 
 
 class InterfaceTest(unittest.TestCase):
     def test_names_and_arguments(self):
-        for name, parameters in PARAMETERS.items():
-            module = fleets if name in IN_FLEETS else hauling
-            function = getattr(module, name)
-            self.assertEqual(list(inspect.signature(function).parameters), parameters)
-            self.assertEqual(function.__module__, module.__name__)
+        for module, functions in PARAMETERS.items():
+            for name, parameters in functions.items():
+                function = getattr(module, name)
+                self.assertEqual(list(inspect.signature(function).parameters), parameters)
+                self.assertEqual(function.__module__, module.__name__)
+
+    def test_crew_is_keyword_only_and_none_by_default(self):
+        for module, functions in PARAMETERS.items():
+            for name in functions:
+                for parameter in inspect.signature(getattr(module, name)).parameters.values():
+                    if parameter.name == "crew":
+                        self.assertIs(parameter.kind, inspect.Parameter.KEYWORD_ONLY)
+                        self.assertIs(parameter.default, None)
+                    else:
+                        self.assertIs(parameter.kind, inspect.Parameter.POSITIONAL_OR_KEYWORD)
+                        self.assertIs(parameter.default, inspect.Parameter.empty)
 
     def test_arguments_by_keyword(self):
         self.assertEqual(hauling.haul(fleet=RING, positions=(0, 0, 0), barge=0, position=12), (12, 7, 2))
         self.assertEqual(fleets.chain_length(rear=2, front=0, fleet=RING), 10)
+        shown = distances.check_certificate(
+            crew=(0, 1), certificate=SHOWN, goal=(20, 20), positions=(0, 0), fleet=PAIR)
+        self.assertEqual(shown, 24)
+        self.assertEqual(logs.shortest_ropes(arrangements=[(0, 4)], pairs=[(1, 0)], count=2), [(1, 0, 4)])
 
     def test_examples_of_the_readme(self):
         readme = pathlib.Path(__file__).resolve().parent.parent / "README.md"
@@ -103,7 +181,10 @@ class ArgumentsTest(ErrorCase):
         for call, arguments, kind in CALLS:
             if kind is list:
                 value = call(*arguments)
-                before = list(value)
+                before = copy.deepcopy(value)
+                for item in value:
+                    if isinstance(item, list):
+                        item.append("changed")
                 value.append("changed")
                 value[0] = "changed"
                 self.assertEqual(call(*arguments), before)
@@ -118,6 +199,17 @@ class ArgumentsTest(ErrorCase):
         circle.pop()
         self.assertFalse(fleets.is_circle(CLASH, circle))
         self.assertTrue(fleets.is_circle(CLASH, fleets.find_circle(CLASH)))
+        certificate = distances.distance_certificate(PAIR, (0, 0), (20, 20))
+        certificate.append(((0, 1), 1))
+        self.assertIsNone(distances.check_certificate(PAIR, (0, 0), (20, 20), certificate))
+        certificate.pop()
+        self.assertEqual(distances.check_certificate(PAIR, (0, 0), (20, 20), certificate), 24)
+        log = list(LOG)
+        self.assertIsNone(logs.first_error(RING, START, log))
+        log.append(((0, 8), (8, 3, 7)))
+        self.assertEqual(logs.first_error(RING, START, log), 2)
+        log.pop()
+        self.assertIsNone(logs.first_error(RING, START, log))
 
     def test_errors_in_the_order_of_the_arguments(self):
         self.expect(InvalidFleet, fleets.broken_ropes, (0, ()), None, part="count", index=0)
@@ -129,6 +221,24 @@ class ArgumentsTest(ErrorCase):
         self.expect(InvalidWishes, hauling.reachable_ranges, RING, (9, 9, 9), (0, 0), index=2)
         self.expect(InvalidWishes, hauling.greatest_positions, CLASH, None, index=0)
         self.expect(InvalidBarge, fleets.chain_length, CLASH, None, 0)
+        self.expect(InvalidPositions, knots.needs_haul, RING, START, None, None, index=0)
+        self.expect(InvalidRope, ropes.implied, CLASH, None)
+        self.expect(InvalidFleet, ropes.missing_rope, CLASH, None, part="fleet", index=0)
+        self.expect(InvalidPositions, logs.first_error, RING, None, None, index=0)
+        # The pairs stand before the positions, but the interface names the error of the positions first.
+        self.expect(InvalidPositions, logs.shortest_ropes, 2, None, None, index=0)
+
+    def test_crew_is_checked_behind_the_way_and_ahead_of_the_certificate(self):
+        check = distances.check_certificate
+        self.expect_crew([], InvalidFleet, check, None, None, None, None, part="fleet", index=0)
+        self.expect_crew([], InvalidPositions, check, RING, (0, 0), None, None, index=2)
+        self.expect_crew([], BrokenRope, check, RING, (6, 0, 0), None, None, index=0)
+        self.expect_crew([], InvalidPositions, check, RING, START, (0, 0), None, index=2)
+        self.expect_crew([], BrokenRope, check, RING, START, (6, 0, 0), None, index=0)
+        self.expect_crew([], InvalidGoal, check, RING, START, (0, 0, -1), None, barge=2)
+        self.expect_crew([], InvalidCrew, check, RING, START, GOAL, None, index=0)
+        self.expect_crew((0,), CrewTooSmall, check, RING, START, GOAL, None, knot=(2,))
+        self.expect_crew((0, 2), InvalidCertificate, check, RING, START, GOAL, None, index=0)
 
 
 if __name__ == "__main__":

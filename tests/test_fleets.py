@@ -2,11 +2,29 @@
 
 import unittest
 
+from haulropes.distances import check_certificate, distance_certificate, least_distance, plan_shortest
 from haulropes.errors import BrokenRope, Contradictory, InvalidBarge, InvalidFleet, InvalidPositions
 from haulropes.fleets import broken_ropes, chain_length, find_circle, is_circle, taut_ropes
 from haulropes.hauling import (
     dragged_barges, greatest_positions, haul, haul_all, least_positions, reachable_ranges, total_distance)
+from haulropes.knots import (
+    count_choices, fewest_hauls, find_knots, find_source_knots, moving_barges, needs_haul, plan_fewest)
+from haulropes.logs import count_positions, first_error
+from haulropes.ropes import counterexample, implied, missing_rope, reduce_ropes, redundant_ropes
 from support import CLASH, NO_NUMBERS, RING, ErrorCase, is_contradictory, random_fleets, simple_chains
+
+
+def goal_calls():
+    """Return all functions with positions and a goal as calls with nothing but a fleet and these."""
+    return (
+        moving_barges, find_knots, find_source_knots, fewest_hauls, count_choices,
+        lambda fleet, positions, goal: plan_fewest(fleet, positions, goal, crew=[]),
+        lambda fleet, positions, goal: needs_haul(fleet, positions, goal, None),
+        lambda fleet, positions, goal: least_distance(fleet, positions, goal, crew=[]),
+        lambda fleet, positions, goal: plan_shortest(fleet, positions, goal, crew=[]),
+        lambda fleet, positions, goal: distance_certificate(fleet, positions, goal, crew=[]),
+        lambda fleet, positions, goal: check_certificate(fleet, positions, goal, None, crew=[]),
+    )
 
 
 def fleet_calls():
@@ -24,7 +42,15 @@ def fleet_calls():
         lambda fleet: least_positions(fleet, None, None),
         lambda fleet: greatest_positions(fleet, None),
         lambda fleet: reachable_ranges(fleet, None, None),
-    )
+        lambda fleet: implied(fleet, None),
+        lambda fleet: counterexample(fleet, None),
+        redundant_ropes,
+        reduce_ropes,
+        lambda fleet: missing_rope(fleet, None),
+        lambda fleet: missing_rope(RING, fleet),
+        lambda fleet: first_error(fleet, None, None),
+        lambda fleet: count_positions(fleet, None),
+    ) + tuple([without_way(call) for call in goal_calls()])
 
 
 def positions_calls():
@@ -37,7 +63,18 @@ def positions_calls():
         lambda fleet, positions: dragged_barges(fleet, positions, None, None),
         lambda fleet, positions: least_positions(fleet, positions, None),
         lambda fleet, positions: reachable_ranges(fleet, positions, None),
-    )
+        lambda fleet, positions: first_error(fleet, positions, None),
+    ) + tuple([without_goal(call) for call in goal_calls()])
+
+
+def without_way(call):
+    """Return a call with a goal as one with nothing but a fleet."""
+    return lambda fleet: call(fleet, None, None)
+
+
+def without_goal(call):
+    """Return a call with a goal as one with nothing but a fleet and positions."""
+    return lambda fleet, positions: call(fleet, positions, None)
 
 
 class FleetTest(ErrorCase):

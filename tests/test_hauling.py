@@ -7,19 +7,10 @@ from haulropes.errors import BrokenRope, Contradictory, InvalidHaul, InvalidPosi
 from haulropes.fleets import broken_ropes
 from haulropes.hauling import (
     dragged_barges, greatest_positions, haul, haul_all, least_positions, reachable_ranges, total_distance)
-from support import CLASH, NO_NUMBERS, RING, ErrorCase, is_contradictory, random_fleets, settle
+from support import CLASH, NO_NUMBERS, RING, ErrorCase, calm_fleets, settle
 
 # Barge 1 stays ahead of barge 0 by 2 to 4, and barge 2 of barge 1 by at least 3.
 AHEAD = (3, ((0, 1, -2), (1, 0, 4), (1, 2, -3)))
-
-
-def calm_fleets(many):
-    """Return random fleets with valid positions near 0."""
-    pairs = []
-    for fleet in random_fleets(many):
-        if not is_contradictory(fleet):
-            pairs.append((fleet, settle(fleet, (0,) * fleet[0])))
-    return pairs
 
 
 class HaulTest(ErrorCase):
