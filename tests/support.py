@@ -32,6 +32,14 @@ class ErrorCase(unittest.TestCase):
             self.assertIsNot(type(value), bool)
 
 
+class HarborCase(ErrorCase):
+    def expect_unchanged(self, harbor, kind, call, *arguments, **attributes):
+        """Check that a call raises this error and changes nothing, also not what undo and redo do."""
+        before = show_course(harbor)
+        self.expect(kind, call, *arguments, **attributes)
+        self.assertEqual(show_course(harbor), before)
+
+
 def random_fleets(many, most_barges=5, low=-9, high=15, seed=1):
     """Return the same mixed fleets at every run, with and without contradictions."""
     source = random.Random(seed)
@@ -147,3 +155,28 @@ def settle(fleet, positions):
                 positions[rear] = positions[front] - length
                 moved = True
     return tuple(positions)
+
+
+def show_state(harbor):
+    """Return what a harbor tells of itself."""
+    return (
+        harbor.current_fleet(), harbor.current_positions(), harbor.distance(), harbor.history(),
+        harbor.checkpoints(), harbor.is_busy())
+
+
+def show_course(harbor):
+    """Return what a harbor tells of itself now, behind each undo and behind each redo, and leave it as it is."""
+    shown = [show_state(harbor)]
+    many = 0
+    while harbor.undo():
+        many += 1
+        shown.append(show_state(harbor))
+    for _ in range(many):
+        harbor.redo()
+    many = 0
+    while harbor.redo():
+        many += 1
+        shown.append(show_state(harbor))
+    for _ in range(many):
+        harbor.undo()
+    return shown

@@ -6,11 +6,11 @@ import inspect
 import pathlib
 import unittest
 
-from haulropes import distances, fleets, hauling, knots, logs, ropes
+from haulropes import codec, distances, fleets, harbor, hauling, knots, logs, notation, ropes, scripts
 from haulropes.errors import (
     BrokenRope, CrewTooSmall, HaulError, InvalidBarge, InvalidCertificate, InvalidCrew, InvalidFleet, InvalidGoal,
     InvalidHaul, InvalidPositions, InvalidRope, InvalidWishes)
-from support import CLASH, RING, ErrorCase
+from support import CLASH, RING, ErrorCase, show_course
 
 WAY = ["fleet", "positions", "goal"]
 PARAMETERS = {
@@ -57,6 +57,45 @@ PARAMETERS = {
         "shortest_ropes": ["count", "pairs", "arrangements"],
         "count_positions": ["fleet", "limit"],
     },
+    harbor: {
+        "Harbor": ["fleet", "positions"],
+        "replay": ["fleet", "positions", "operations"],
+    },
+    scripts: {
+        "run_script": ["fleet", "positions", "source"],
+        "trace_script": ["fleet", "positions", "source"],
+    },
+    notation: {
+        "format_state": ["fleet", "positions"],
+        "parse_state": ["text"],
+        "format_plan": ["hauls"],
+        "parse_plan": ["text"],
+    },
+    codec: {
+        "pack_bytes": ["values"],
+        "unpack_bytes": ["data"],
+        "encode_plan": ["fleet", "positions", "hauls"],
+        "decode_plan": ["data"],
+    },
+}
+# The methods of Harbor.
+METHODS = {
+    "haul_barge": ["barge", "position"],
+    "tie_rope": ["rope"],
+    "cut_rope": ["index"],
+    "change_length": ["index", "length"],
+    "reach": ["goal"],
+    "current_fleet": [],
+    "current_positions": [],
+    "distance": [],
+    "undo": [],
+    "redo": [],
+    "history": [],
+    "save": ["name"],
+    "restore": ["name"],
+    "checkpoints": [],
+    "apply_all": ["operations"],
+    "is_busy": [],
 }
 
 START = (0, 0, 0)
@@ -64,6 +103,10 @@ GOAL = (10, 5, 5)
 LOG = [((0, 8), (8, 3, 0)), ((2, 6), (8, 3, 6))]
 SHOWN = [((0,), 4), ((1,), 4), ((0, 1), 16)]
 PAIR = (2, ((0, 1, 4), (1, 0, 4)))
+OPERATIONS = [("haul", 0, 8), ("tie", (0, 1, 5)), ("change", 1, 9), ("cut", 0), ("reach", (8, 5, 0))]
+SCRIPT = "set n 2\nrepeat n\nhaul 0 by 4\nend\ncut 1"
+STATE = "barges 2\nrope 0 1 5\nat 3 -2"
+PLAN = [(0, 8), (2, 6)]
 
 # Calls with valid arguments, and the kind of the value that each of them returns.
 CALLS = (
@@ -99,6 +142,16 @@ CALLS = (
     (logs.first_error, (RING, START, LOG + [None]), int),
     (logs.shortest_ropes, (2, [(0, 1), (1, 0)], [(0, 4), (9, 5)]), list),
     (logs.count_positions, ((2, ((0, 1, 0),)), 2), int),
+    (scripts.run_script, (RING, START, SCRIPT), tuple),
+    (scripts.trace_script, (RING, START, SCRIPT), list),
+    (notation.format_state, (RING, START), str),
+    (notation.parse_state, (STATE,), tuple),
+    (notation.format_plan, (PLAN,), str),
+    (notation.parse_plan, ("haul 0 8\nhaul 2 6",), list),
+    (codec.pack_bytes, ([72, 1],), bytes),
+    (codec.unpack_bytes, (b"H\x01",), list),
+    (codec.encode_plan, (RING, START, PLAN), bytes),
+    (codec.decode_plan, (codec.encode_plan(RING, START, PLAN),), tuple),
 )
 FAILING_CALLS = (
     (fleets.broken_ropes, ((3, [(0, 1, 5)]), [0, 0])),
@@ -113,6 +166,16 @@ FAILING_CALLS = (
     (ropes.counterexample, (RING, [0, 2, 9])),
     (logs.shortest_ropes, (2, [(0, 1), [1, 0]], [(0, 4), (9, 5)])),
     (logs.shortest_ropes, (2, [(0, 1)], [(0, 4), [9, 5]])),
+    (harbor.Harbor, (RING, [0, 0, 0])),
+    (harbor.replay, (RING, START, OPERATIONS + [["cut", 0]])),
+    (harbor.replay, (RING, START, OPERATIONS + [("tie", [0, 1, 9])])),
+    (scripts.run_script, (RING, START, SCRIPT + "\ncut 2")),
+    (scripts.trace_script, (RING, START, "while 0 = 0\nhaul 0 by 1\nend")),
+    (notation.format_plan, (PLAN + [[2, 6]],)),
+    (notation.parse_state, (STATE + " 1",)),
+    (codec.pack_bytes, ([72, 1, [2]],)),
+    (codec.encode_plan, (RING, START, PLAN + [[2, 7]])),
+    (codec.decode_plan, (codec.encode_plan(RING, START, PLAN)[:-1],)),
 )
 
 
@@ -123,6 +186,15 @@ class InterfaceTest(unittest.TestCase):
                 function = getattr(module, name)
                 self.assertEqual(list(inspect.signature(function).parameters), parameters)
                 self.assertEqual(function.__module__, module.__name__)
+
+    def test_methods_are_defined_in_their_class(self):
+        for name, parameters in METHODS.items():
+            method = vars(harbor.Harbor)[name]
+            self.assertEqual(list(inspect.signature(method).parameters), ["self"] + parameters)
+            self.assertEqual(method.__qualname__, "Harbor." + name)
+            for parameter in inspect.signature(method).parameters.values():
+                self.assertIs(parameter.kind, inspect.Parameter.POSITIONAL_OR_KEYWORD)
+                self.assertIs(parameter.default, inspect.Parameter.empty)
 
     def test_crew_is_keyword_only_and_none_by_default(self):
         for module, functions in PARAMETERS.items():
@@ -142,6 +214,12 @@ class InterfaceTest(unittest.TestCase):
             crew=(0, 1), certificate=SHOWN, goal=(20, 20), positions=(0, 0), fleet=PAIR)
         self.assertEqual(shown, 24)
         self.assertEqual(logs.shortest_ropes(arrangements=[(0, 4)], pairs=[(1, 0)], count=2), [(1, 0, 4)])
+        port = harbor.replay(operations=[("cut", 0)], positions=START, fleet=RING)
+        self.assertEqual(port.haul_barge(position=8, barge=0), (8, 0, 0))
+        self.assertEqual(port.change_length(length=9, index=0), 5)
+        self.assertIsNone(port.save(name="a"))
+        self.assertEqual(scripts.trace_script(source="", positions=START, fleet=RING), [])
+        self.assertEqual(codec.encode_plan(hauls=[], positions=(0,), fleet=(1, ())), bytes([72, 1, 0, 0, 0, 73]))
 
     def test_examples_of_the_readme(self):
         readme = pathlib.Path(__file__).resolve().parent.parent / "README.md"
@@ -204,12 +282,31 @@ class ArgumentsTest(ErrorCase):
         self.assertIsNone(distances.check_certificate(PAIR, (0, 0), (20, 20), certificate))
         certificate.pop()
         self.assertEqual(distances.check_certificate(PAIR, (0, 0), (20, 20), certificate), 24)
+        operations = list(OPERATIONS)
+        port = harbor.replay(RING, START, operations)
+        operations.clear()
+        self.assertEqual(port.history(), OPERATIONS)
+        values = [72, 1]
+        data = codec.pack_bytes(values)
+        values.clear()
+        self.assertEqual(codec.unpack_bytes(data), [72, 1])
         log = list(LOG)
         self.assertIsNone(logs.first_error(RING, START, log))
         log.append(((0, 8), (8, 3, 7)))
         self.assertEqual(logs.first_error(RING, START, log), 2)
         log.pop()
         self.assertIsNone(logs.first_error(RING, START, log))
+
+    def test_repeated_replays_lead_to_equal_harbors(self):
+        operations = copy.deepcopy(OPERATIONS)
+        first = harbor.replay(RING, START, operations)
+        second = harbor.replay(RING, START, operations)
+        self.assertEqual(operations, OPERATIONS)
+        self.assertEqual(show_course(first), show_course(second))
+        first.undo()
+        first.history().clear()
+        first.apply_all([("cut", 0)]).clear()
+        self.assertEqual(show_course(second), show_course(harbor.replay(RING, START, operations)))
 
     def test_errors_in_the_order_of_the_arguments(self):
         self.expect(InvalidFleet, fleets.broken_ropes, (0, ()), None, part="count", index=0)
@@ -225,6 +322,11 @@ class ArgumentsTest(ErrorCase):
         self.expect(InvalidRope, ropes.implied, CLASH, None)
         self.expect(InvalidFleet, ropes.missing_rope, CLASH, None, part="fleet", index=0)
         self.expect(InvalidPositions, logs.first_error, RING, None, None, index=0)
+        self.expect(InvalidFleet, harbor.Harbor, (0, ()), None, part="count", index=0)
+        self.expect(InvalidPositions, harbor.replay, CLASH, (0, None), None, index=1)
+        self.expect(InvalidPositions, scripts.run_script, RING, None, "wrong", index=0)
+        self.expect(InvalidPositions, notation.format_state, CLASH, None, index=0)
+        self.expect(InvalidPositions, codec.encode_plan, CLASH, None, None, index=0)
         # The pairs stand before the positions, but the interface names the error of the positions first.
         self.expect(InvalidPositions, logs.shortest_ropes, 2, None, None, index=0)
 
